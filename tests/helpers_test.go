@@ -195,3 +195,69 @@ func okOps(t *testing.T, text string) []Op {
 	}
 	return ops
 }
+
+// wrongLists are not ok, one for each way that there is, with signs that would stand if it were not for that.
+func wrongLists() map[string][]Op {
+	a := put(id(1, 1), 'a', right, nothing)
+	b := put(id(1, 2), 'b', left, id(1, 1))
+	with := func(more ...Op) []Op { return append([]Op{a, b}, more...) }
+	return map[string][]Op{
+		"no id":                     with(Op{}),
+		"Rep 0":                     append([]Op{put(id(0, 1), 'c', right, nothing)}, a, b),
+		"Rep below 0":               append([]Op{put(id(-1, 1), 'c', right, nothing)}, a, b),
+		"Rep above RepMax":          with(put(id(4, 1), 'c', right, id(1, 1))),
+		"Rep far above":             with(put(id(math.MaxInt, 1), 'c', right, id(1, 1))),
+		"Num 0":                     with(put(id(2, 0), 'c', right, id(1, 1))),
+		"Num below 0":               with(put(id(2, -1), 'c', right, id(1, 1))),
+		"Num above NumMax":          append(fullOps(), put(id(3, 13), 'c', right, nothing)),
+		"Num far above":             with(put(id(2, math.MaxInt), 'c', right, id(1, 1))),
+		"beside itself":             with(put(id(2, 1), 'c', right, id(2, 1))),
+		"takes itself away":         with(take(id(2, 1), id(2, 1))),
+		"kind 0":                    with(Op{Id: id(2, 1), Kind: 0, Ref: id(1, 1), Side: right, Sign: 'c'}),
+		"kind 3":                    with(Op{Id: id(2, 1), Kind: 3, Ref: id(1, 1), Side: right, Sign: 'c'}),
+		"kind below 0":              with(Op{Id: id(2, 1), Kind: -1, Ref: id(1, 1)}),
+		"left of nothing":           with(put(id(2, 1), 'c', left, nothing)),
+		"side 2":                    with(put(id(2, 1), 'c', 2, id(1, 1))),
+		"side 2 of nothing":         with(put(id(2, 1), 'c', 2, nothing)),
+		"side below 0":              with(put(id(2, 1), 'c', -1, id(1, 1))),
+		"sign 0":                    with(put(id(2, 1), 0, right, id(1, 1))),
+		"sign ahead of a":           with(put(id(2, 1), 'a'-1, right, id(1, 1))),
+		"sign behind z":             with(put(id(2, 1), 'z'+1, right, id(1, 1))),
+		"sign that wraps round":     with(put(id(2, 1), 'c'+256, right, id(1, 1))),
+		"takes nothing away":        with(take(id(2, 1), nothing)),
+		"takes with a side":         with(Op{Id: id(2, 1), Kind: impl.OpTake, Ref: id(1, 1), Side: right}),
+		"takes with a sign":         with(Op{Id: id(2, 1), Kind: impl.OpTake, Ref: id(1, 1), Sign: 'c'}),
+		"out of order by Rep":       {put(id(2, 1), 'c', right, id(1, 1)), a, b},
+		"out of order by Num":       {b, a},
+		"twice":                     {a, a, b},
+		"a gap":                     {a, b, put(id(1, 4), 'c', right, id(1, 1))},
+		"not from 1 on":             with(put(id(2, 2), 'c', right, id(1, 1))),
+		"beside what is not there":  with(put(id(2, 1), 'c', right, id(1, 3))),
+		"beside no id":              with(put(id(2, 1), 'c', right, id(1, 0))),
+		"beside a taking":           with(take(id(2, 1), id(1, 1)), put(id(3, 1), 'c', right, id(2, 1))),
+		"takes what is not there":   with(take(id(2, 1), id(3, 1))),
+		"takes a taking away":       with(take(id(2, 1), id(1, 1)), take(id(3, 1), id(2, 1))),
+		"a circle of two":           with(put(id(2, 1), 'c', right, id(2, 2)), put(id(2, 2), 'd', right, id(2, 1))),
+		"a circle of three":         with(put(id(2, 1), 'c', right, id(2, 2)), put(id(2, 2), 'd', left, id(3, 1)), put(id(3, 1), 'e', left, id(2, 1))),
+		"beside one of a circle":    with(put(id(2, 1), 'c', right, id(2, 2)), put(id(2, 2), 'd', right, id(2, 1)), put(id(3, 1), 'e', right, id(2, 1))),
+		"takes one of a circle":     with(put(id(2, 1), 'c', right, id(2, 2)), put(id(2, 2), 'd', right, id(2, 1)), take(id(3, 1), id(2, 1))),
+		"more than all that may be": slices.Repeat(fullOps(), 2),
+	}
+}
+
+// rowOps is all that may be done, each sign put beside the one ahead, by all in turn, on the side that is told of its place.
+func rowOps(side func(place int) int) []Op {
+	var ops []Op
+	last := nothing
+	for i := range impl.RepMax * impl.NumMax {
+		own := id(i%impl.RepMax+1, i/impl.RepMax+1)
+		on := right
+		if i > 0 {
+			on = side(i)
+		}
+		ops = append(ops, put(own, 'a'+i%26, on, last))
+		last = own
+	}
+	sortOps(ops)
+	return ops
+}
