@@ -132,8 +132,12 @@ func OpsRead(text string) ([]Op, bool) {
 	return ops, true
 }
 
+func repOk(rep int) bool {
+	return rep >= 1 && rep <= RepMax
+}
+
 func idOk(id Id) bool {
-	return id.Rep >= 1 && id.Rep <= RepMax && id.Num >= 1 && id.Num <= NumMax
+	return repOk(id.Rep) && id.Num >= 1 && id.Num <= NumMax
 }
 
 func isNothing(id Id) bool {
