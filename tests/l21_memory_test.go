@@ -46,43 +46,64 @@ func (l lists) isSpoilt(mark int) bool {
 	return slices.ContainsFunc(l.ops, func(ops []Op) bool { return isSpoilt(ops, mark) })
 }
 
-func guardedDesk(d Desk) Desk {
-	return Desk{Rep: d.Rep, Doc: Doc{Ops: guarded(d.Doc.Ops), Wait: guarded(d.Doc.Wait)}, Known: guardedNumbers(d.Known)}
+func (l lists) guarded() lists {
+	var out lists
+	for _, numbers := range l.numbers {
+		out.numbers = append(out.numbers, guardedNumbers(numbers))
+	}
+	for _, ops := range l.ops {
+		out.ops = append(out.ops, guarded(ops))
+	}
+	return out
+}
+
+func (l lists) checkGuarded(t *testing.T, name string, was lists) {
+	t.Helper()
+	for i, numbers := range was.numbers {
+		checkNumbers(t, name, l.numbers[i], numbers)
+	}
+	for i, ops := range was.ops {
+		checkGuarded(t, name, l.ops[i], ops)
+	}
+}
+
+// checkMemory asks that arguments stay, and that no list of an answer shares memory with them, with another answer, or with another list of it.
+func checkMemory(t *testing.T, name string, args lists, call func(args lists) lists) {
+	t.Helper()
+	room := args.guarded()
+	first, second, want := call(room), call(room), call(args.guarded())
+	for i := range first.ops {
+		spoil(first.ops[i], -9)
+		for j := range first.ops {
+			if j != i && isSpoilt(first.ops[j], -9) {
+				t.Fatal(name, "has two lists that share memory", args)
+			}
+		}
+		spoil(first.ops[i], -7)
+	}
+	lists{numbers: first.numbers}.spoil(-9)
+	room.checkGuarded(t, name, args)
+	room.spoil(-8)
+	for _, mark := range []int{-7, -8, -9} {
+		if second.isSpoilt(mark) {
+			t.Fatal(name, "shares memory", mark, args)
+		}
+	}
+	if !slices.EqualFunc(second.ops, want.ops, slices.Equal) || !slices.EqualFunc(second.numbers, want.numbers, slices.Equal) {
+		t.Fatal(name, "shares memory with something", args)
+	}
 }
 
 func guardedWord(w Word) Word {
 	return Word{Kind: w.Kind, Rep: w.Rep, Seen: guardedNumbers(w.Seen), Ops: guarded(w.Ops)}
 }
 
-// checkDeskMemory asks that arguments stay, and that no list of an answer shares memory with them, with another answer, or with another list of it.
 func checkDeskMemory(t *testing.T, name string, d Desk, w Word, call func(d Desk, w Word) lists) {
 	t.Helper()
-	room, wordRoom := guardedDesk(d), guardedWord(w)
-	first, second, want := call(room, wordRoom), call(room, wordRoom), call(clonedDesk(d), guardedWord(w))
-	for i := range first.ops {
-		spoil(first.ops[i], -9)
-		for j := range first.ops {
-			if j != i && isSpoilt(first.ops[j], -9) {
-				t.Fatal(name, "has two lists that share memory", d, w)
-			}
-		}
-		spoil(first.ops[i], -7)
-	}
-	lists{numbers: first.numbers}.spoil(-9)
-	checkGuarded(t, name, room.Doc.Ops, d.Doc.Ops)
-	checkGuarded(t, name, room.Doc.Wait, d.Doc.Wait)
-	checkNumbers(t, name, room.Known, d.Known)
-	checkNumbers(t, name, wordRoom.Seen, w.Seen)
-	checkGuarded(t, name, wordRoom.Ops, w.Ops)
-	deskLists(room).with(wordLists(wordRoom)).spoil(-8)
-	for _, mark := range []int{-7, -8, -9} {
-		if second.isSpoilt(mark) {
-			t.Fatal(name, "shares memory", mark, d, w)
-		}
-	}
-	if !slices.EqualFunc(second.ops, want.ops, slices.Equal) || !slices.EqualFunc(second.numbers, want.numbers, slices.Equal) {
-		t.Fatal(name, "shares memory with something", d, w)
-	}
+	checkMemory(t, name, deskLists(d).with(wordLists(w)), func(args lists) lists {
+		desk := Desk{Rep: d.Rep, Doc: Doc{Ops: args.ops[0], Wait: args.ops[1]}, Known: args.numbers[0]}
+		return call(desk, Word{Kind: w.Kind, Rep: w.Rep, Seen: args.numbers[1], Ops: args.ops[2]})
+	})
 }
 
 func TestDeskMemory(t *testing.T) {
