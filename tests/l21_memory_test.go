@@ -81,7 +81,15 @@ func checkMemory(t *testing.T, name string, args lists, call func(args lists) li
 		}
 		spoil(first.ops[i], -7)
 	}
-	lists{numbers: first.numbers}.spoil(-9)
+	for i := range first.numbers {
+		lists{numbers: first.numbers[i : i+1]}.spoil(-9)
+		for j := range first.numbers {
+			if j != i && (lists{numbers: first.numbers[j : j+1]}).isSpoilt(-9) {
+				t.Fatal(name, "has two lists that share memory", args)
+			}
+		}
+		lists{numbers: first.numbers[i : i+1]}.spoil(-7)
+	}
 	room.checkGuarded(t, name, args)
 	room.spoil(-8)
 	for _, mark := range []int{-7, -8, -9} {
