@@ -144,6 +144,10 @@ func isNothing(id Id) bool {
 	return id == Id{}
 }
 
+func isLetter(sign int) bool {
+	return sign >= 'a' && sign <= 'z'
+}
+
 func thingOf(op Op) (thing, error) {
 	if !idOk(op.Id) || op.Ref == op.Id {
 		return nil, errNoThing
@@ -159,7 +163,7 @@ func thingOf(op Op) (thing, error) {
 }
 
 func putOk(op Op) bool {
-	if op.Sign < 'a' || op.Sign > 'z' {
+	if !isLetter(op.Sign) {
 		return false
 	}
 	if isNothing(op.Ref) {
